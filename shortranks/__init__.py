@@ -1,0 +1,1 @@
+"""Shortranks: ranks told from a few kept values."""
