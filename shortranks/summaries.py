@@ -37,8 +37,7 @@ class Summary:
 
 def tightened(summary):
     """Give the summary with the least and greatest ranks that rows have; None if no row leaves it."""
-    if not isinstance(summary, Summary):
-        raise BadSummary()
+    check_summary(summary)
     lows = _least_ranks(summary)
     highs = _greatest_ranks(summary)
     entries = []
@@ -47,6 +46,17 @@ def tightened(summary):
             return None
         entries.append((entry[0], low, high))
     return Summary(summary.many, tuple(entries))
+
+
+def check_summary(summary):
+    """Raise BadSummary for what is no summary."""
+    if not isinstance(summary, Summary):
+        raise BadSummary()
+
+
+def is_value(thing):
+    """Tell whether a thing is an integer that an entry can have as its value."""
+    return is_between(thing, -GREATEST_VALUE, GREATEST_VALUE)
 
 
 def surely_tightened(summary):
@@ -71,9 +81,7 @@ def _is_entry(many, thing):
     if not isinstance(thing, tuple) or len(thing) != 3:
         return False
     value, low, high = thing
-    if not is_between(value, -GREATEST_VALUE, GREATEST_VALUE):
-        return False
-    return is_between(low, 1, many) and is_between(high, low, many)
+    return is_value(value) and is_between(low, 1, many) and is_between(high, low, many)
 
 
 def _least_ranks(summary):

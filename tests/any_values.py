@@ -23,6 +23,10 @@ def is_integer(value):
     return type(value) is int
 
 
+def is_summary(value):
+    return isinstance(value, Summary)
+
+
 def others(keep_out):
     """All the values for which keep_out does not hold."""
     return [value for value in any_values() if not keep_out(value)]

@@ -44,6 +44,15 @@ def places(row, entries):
     return found
 
 
+def has_places(row, entries):
+    """Whether there is such a tuple of ranks; for rows too long to look at all tuples."""
+    reached = {0}
+    for value, low, high in entries:
+        reached = {rank for rank in range(low, high + 1)
+                   if row[rank - 1] == value and any(before < rank for before in reached)}
+    return bool(reached)
+
+
 def leaving(summary, rows):
     """The rows, of those passed, that leave a summary, each with its tuples of ranks."""
     found = []

@@ -5,16 +5,12 @@ import unittest
 from shortranks.asking import answer, below, error_at, up_to, values_at, worst
 from shortranks.errors import BadRank, BadSummary, BadValue, NoEntry, NoRow
 from shortranks.summaries import Summary
-from tests.any_values import HUGE, error_class, is_integer, others
+from tests.any_values import HUGE, error_class, is_integer, is_summary, others
 
 TOLD = Summary(10, ((5, 2, 4), (9, 6, 8)))
 LOOSE = Summary(10, ((5, 1, 4), (5, 1, 4), (9, 3, 10)))
 NO_ROW = Summary(2, ((1, 1, 1), (2, 1, 1)))
 GREAT = Summary(HUGE, ((-HUGE, 1, 1), (0, 5, HUGE), (HUGE, HUGE, HUGE)))
-
-
-def is_summary(value):
-    return isinstance(value, Summary)
 
 
 class Examples(unittest.TestCase):

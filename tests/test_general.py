@@ -4,17 +4,35 @@ import copy
 import unittest
 
 from shortranks.asking import answer, below, error_at, up_to, values_at, worst
-from shortranks.errors import BadCount, BadEntries, BadRank, BadValue, RankError
+from shortranks.changing import fewest, joined, put_in, without
+from shortranks.errors import (BadCount, BadEntries, BadError, BadIndex, BadRank, BadRanks, BadRow, BadSummary,
+                               BadValue, RankError)
+from shortranks.pairs import lacking_row, within
+from shortranks.rows import kept_from, leaves, row_for
 from shortranks.summaries import Summary, tightened
 from tests.any_values import HUGE, any_values, error_class, error_of
 
+ENTRIES = ((5, 1, 4), (5, 1, 4), (9, 3, 10))
+ROW = (9, 5, 6, 5, 7, 11, 12, 13, 14, 15)
+
+
+def left_by(summary, row):
+    return leaves(row, summary)
+
+
+# Functions that take a summary first, and what else they are passed.
 CALLS = (
     (tightened, ()), (worst, ()), (values_at, (2,)), (below, (6,)), (up_to, (5,)), (answer, (5,)), (error_at, (5,)),
+    (without, (1,)), (fewest, (7,)), (fewest, (6,)), (put_in, (7,)), (joined, (Summary(4, ((6, 2, 4), (8, 2, 4))),)),
+    (left_by, (ROW,)), (left_by, (ROW[1:],)), (row_for, ()), (within, (Summary(10, ((5, 1, 4),)),)),
+    (within, (Summary(10, ((9, 5, 9),)),)), (lacking_row, (Summary(10, ((5, 1, 4),)),)),
+    (lacking_row, (Summary(10, ((9, 5, 9),)),)),
 )
 BAD_CALLS = (
-    (values_at, (0,)), (below, (None,)), (up_to, ("6",)), (answer, (11,)), (error_at, (True,)),
+    (values_at, (0,)), (below, (None,)), (up_to, ("6",)), (answer, (11,)), (error_at, (True,)), (without, (3,)),
+    (fewest, (-1,)), (put_in, (None,)), (joined, (Summary(2, ((1, 1, 1), (2, 1, 1))),)), (joined, (None,)),
+    (left_by, ((),)), (within, ((),)), (lacking_row, (3,)),
 )
-ENTRIES = ((5, 1, 4), (5, 1, 4), (9, 3, 10))
 
 
 def plain(value):
@@ -48,9 +66,20 @@ class NothingIsChanged(unittest.TestCase):
                 error_of(Summary, 7, ((value, 1, 1), (1, value, 1)))
                 for function, rest in CALLS:
                     error_of(function, value, *rest)
-                for function in (values_at, below, up_to, answer, error_at):
-                    error_of(function, Summary(10, ENTRIES), value)
+                for function, rest in CALLS:
+                    if rest:
+                        error_of(function, Summary(10, ENTRIES), value)
+                error_of(kept_from, value, (1,))
+                error_of(kept_from, (5, 6), value)
                 self.assertEqual(plain(value), plain(same))
+
+    def test_two_summaries_stay(self):
+        for function in (joined, within, lacking_row):
+            for entries in (((6, 2, 4),), ((6, 1, 1), (7, 1, 1)), ((5, 1, 10),)):
+                one, other = Summary(10, ENTRIES), Summary(10, entries)
+                error_of(function, one, other)
+                error_of(function, other, one)
+                self.assertEqual((one.many, one.entries, other.many, other.entries), (10, ENTRIES, 10, entries))
 
     def test_a_list_cannot_change_a_summary_later(self):
         self.assertIs(error_class(Summary, 3, [(5, 1, 2)]), BadEntries)
@@ -71,8 +100,13 @@ class EqualCalls(unittest.TestCase):
             with self.subTest(function=function, rest=rest):
                 summary = Summary(10, ENTRIES)
                 results = [plain(function(each, *rest)) for each in (summary, summary, copy.deepcopy(summary))]
-                self.assertEqual(results[0], results[1])
-                self.assertEqual(results[0], results[2])
+                results.append(plain(function(summary, *copy.deepcopy(rest))))
+                for result in results[1:]:
+                    self.assertEqual(results[0], result)
+
+    def test_equal_summaries_of_a_row(self):
+        self.assertEqual(plain(kept_from(ROW, (1, 4))), plain(kept_from(ROW, (1, 4))))
+        self.assertEqual(plain(kept_from(ROW, (1, 4))), plain(kept_from(tuple(sorted(ROW)), (1, 4))))
 
     def test_equal_errors(self):
         for function, rest in BAD_CALLS:
@@ -91,16 +125,30 @@ class Integers(unittest.TestCase):
                 self.assertEqual((type(error), error.index), (BadEntries, 0))
             for function in (values_at, answer, error_at):
                 self.assertIs(error_class(function, summary, value), BadRank)
-            for function in (below, up_to):
+            for function in (below, up_to, put_in):
                 self.assertIs(error_class(function, summary, value), BadValue)
+            self.assertIs(error_class(without, summary, value), BadIndex)
+            self.assertIs(error_class(fewest, summary, value), BadError)
+            self.assertIs(error_class(leaves, (3, value), summary), BadRow)
+            self.assertIs(error_class(kept_from, (value, 3), (1,)), BadRow)
+            self.assertIs(error_class(kept_from, (3, 4), (value,)), BadRanks)
 
     def test_kinds_of_results(self):
         summary = Summary(10, ENTRIES)
-        self.assertIs(type(tightened(summary)), Summary)
+        for made in (tightened(summary), without(summary, 0), put_in(summary, 7), joined(summary, summary),
+                     kept_from(ROW, (2, 3))):
+            self.assertEqual((type(made), type(made.many), type(made.entries)), (Summary, int, tuple))
+            for entry in made.entries:
+                self.assertEqual((type(entry), [type(item) for item in entry]), (tuple, [int, int, int]))
         for pair in (values_at(summary, 3), below(summary, 5), up_to(summary, 5), worst(summary)):
             self.assertEqual((type(pair), [type(item) for item in pair]), (tuple, [int, int]))
         for number in (answer(summary, 1), error_at(summary, 1), summary.many, len(summary)):
             self.assertIs(type(number), int)
+        far = Summary(10, ((9, 5, 9),))
+        for several in (fewest(summary, 7), row_for(summary), lacking_row(summary, far)):
+            self.assertEqual((type(several), {type(item) for item in several}), (tuple, {int}))
+        for told in (leaves(ROW, summary), leaves(ROW[1:], summary), within(summary, far), within(summary, summary)):
+            self.assertIs(type(told), bool)
 
 
 class CountedFrom(unittest.TestCase):
@@ -112,6 +160,9 @@ class CountedFrom(unittest.TestCase):
         self.assertEqual(worst(summary), (0, 1))
         self.assertEqual(error_of(Summary, 3, (None,)).index, 0)
         self.assertIs(error_class(answer, summary, 0), BadRank)
+        self.assertEqual(without(summary, 0).entries, ((6, 2, 2), (7, 3, 3)))
+        self.assertEqual((fewest(summary, 0), fewest(summary, 1)), ((0, 1, 2), (1,)))
+        self.assertEqual(kept_from((7, 6, 5), (1,)).entries, ((5, 1, 1),))
 
 
 class FromLeftToRight(unittest.TestCase):
@@ -120,6 +171,10 @@ class FromLeftToRight(unittest.TestCase):
         self.assertIs(error_class(Summary, None, None), BadCount)
         self.assertEqual(error_of(Summary, 3, ((1, 1, 4), None, (0, 1, 1))).index, 0)
         self.assertEqual(error_of(Summary, HUGE, ((2, 1, 4), (1, 1, 1), None)).index, 1)
+        for function in (without, fewest, put_in, joined, within, lacking_row):
+            self.assertIs(error_class(function, None, None), BadSummary)
+        for function in (leaves, kept_from):
+            self.assertIs(error_class(function, None, None), BadRow)
 
 
 if __name__ == "__main__":

@@ -12,7 +12,12 @@ INTERFACE = {
                   "InvalidText"),
     "summaries.py": ("Summary", "tightened"),
     "asking.py": ("values_at", "below", "up_to", "answer", "error_at", "worst"),
+    "changing.py": ("without", "put_in", "joined", "fewest"),
+    "rows.py": ("leaves", "row_for", "kept_from"),
+    "pairs.py": ("within", "lacking_row"),
 }
+# What the language allows to be imported from elsewhere, as far as it is used.
+LIBRARY = {"itertools": {"combinations"}}
 
 
 def files():
@@ -38,12 +43,16 @@ class Layout(unittest.TestCase):
             for word in wanted:
                 self.assertEqual(defined.count(word), 1, word)
 
-    def test_only_the_package_is_imported(self):
+    def test_only_the_package_and_told_functions_are_imported(self):
         for name in files():
             for node in ast.walk(ast.parse(text_of(name))):
                 self.assertNotIsInstance(node, ast.Import)
                 if isinstance(node, ast.ImportFrom):
-                    self.assertRegex(node.module, r"\Ashortranks\.[a-z]+\Z")
+                    self.assertTrue(all(alias.asname is None for alias in node.names))
+                    if node.module in LIBRARY:
+                        self.assertLessEqual({alias.name for alias in node.names}, LIBRARY[node.module])
+                    else:
+                        self.assertRegex(node.module, r"\Ashortranks\.[a-z]+\Z")
 
     def test_sizes_and_characters(self):
         for name in files():

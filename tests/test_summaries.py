@@ -4,11 +4,7 @@ import unittest
 
 from shortranks.errors import BadCount, BadEntries, BadSummary
 from shortranks.summaries import Summary, tightened
-from tests.any_values import HUGE, any_values, error_class, error_of, is_integer, others
-
-
-def is_summary(value):
-    return isinstance(value, Summary)
+from tests.any_values import HUGE, any_values, error_class, error_of, is_integer, is_summary, others
 
 
 class Counts(unittest.TestCase):
