@@ -8,7 +8,7 @@ from shortranks.summaries import surely_tightened
 def values_at(summary, rank):
     """Give the least and the greatest value at a rank, None for one that has no bound."""
     tight = surely_tightened(summary)
-    _check_rank(tight, rank)
+    check_rank(tight.many, rank)
     least = max([value for value, _, high in tight.entries if high <= rank], default=None)
     greatest = min([value for value, low, _ in tight.entries if low >= rank], default=None)
     return least, greatest
@@ -31,30 +31,36 @@ def up_to(summary, value):
 def answer(summary, rank):
     """Give the index of the first entry whose error for a rank is least."""
     tight = _with_entries(summary)
-    _check_rank(tight, rank)
-    errors = _errors(tight, rank)
-    return errors.index(min(errors))
+    check_rank(tight.many, rank)
+    return best_index(tight.entries, rank)
 
 
 def error_at(summary, rank):
     """Give the least error that an entry has for a rank."""
     tight = _with_entries(summary)
-    _check_rank(tight, rank)
-    return min(_errors(tight, rank))
+    check_rank(tight.many, rank)
+    return min(_errors(tight.entries, rank))
 
 
 def worst(summary):
     """Give the greatest error_at of all ranks, and the least rank that has it."""
     tight = _with_entries(summary)
     ranks = _peaks(tight)
-    errors = [min(_errors(tight, rank)) for rank in ranks]
+    errors = [min(_errors(tight.entries, rank)) for rank in ranks]
     greatest = max(errors)
     return greatest, min([rank for rank, error in zip(ranks, errors) if error == greatest])
 
 
-def _check_rank(tight, rank):
-    if not is_between(rank, 1, tight.many):
+def check_rank(many, rank):
+    """Raise BadRank for what is no rank of so many numbers."""
+    if not is_between(rank, 1, many):
         raise BadRank()
+
+
+def best_index(entries, rank):
+    """Give the index of the first of some entries whose error for a rank is least."""
+    errors = _errors(entries, rank)
+    return errors.index(min(errors))
 
 
 def _check_value(value):
@@ -75,8 +81,8 @@ def _many_below(tight, value):
     return least, greatest
 
 
-def _errors(tight, rank):
-    return [max(abs(rank - low), abs(rank - high)) for _, low, high in tight.entries]
+def _errors(entries, rank):
+    return [max(abs(rank - low), abs(rank - high)) for _, low, high in entries]
 
 
 def _peaks(tight):

@@ -4,8 +4,8 @@ from itertools import combinations
 
 from shortranks.asking import below, up_to
 from shortranks.checks import is_between, is_integer
-from shortranks.errors import BadError, BadIndex, BadValue, Full
-from shortranks.summaries import MOST_ENTRIES, Summary, check_summary, is_value, surely_tightened
+from shortranks.errors import BadError, BadIndex, Full
+from shortranks.summaries import MOST_ENTRIES, Summary, check_summary, check_value, surely_tightened
 
 
 def without(summary, index):
@@ -33,11 +33,10 @@ def fewest(summary, error):
 def put_in(summary, value):
     """Give the summary of the rows with one number more."""
     tight = surely_tightened(summary)
-    if not is_value(value):
-        raise BadValue()
+    check_value(value)
     _check_room(len(tight) + 1)
     # A count that would be too great is refused by Summary itself, here and in joined.
-    return Summary(tight.many + 1, _entries_with(tight, value))
+    return Summary(tight.many + 1, entries_with(tight.many, tight.entries, value))
 
 
 def joined(one, other):
@@ -51,6 +50,15 @@ def joined(one, other):
     entries = [_raised(entry, below(second, entry[0])) for entry in first.entries]
     entries.extend([_raised(entry, up_to(first, entry[0])) for entry in second.entries])
     return Summary(first.many + second.many, tuple(sorted(entries, key=lambda entry: entry[0])))
+
+
+def entries_with(many, entries, value):
+    """Give the entries of so many numbers with one for a further number."""
+    before = [entry for entry in entries if entry[0] <= value]
+    behind = [entry for entry in entries if entry[0] > value]
+    low = before[-1][1] + 1 if before else 1
+    high = behind[0][2] if behind else many + 1
+    return tuple(before + [(value, low, high)] + [_raised(entry, (1, 1)) for entry in behind])
 
 
 def _keeps(tight, indexes, error):
@@ -68,14 +76,6 @@ def _keeps(tight, indexes, error):
 def _check_room(length):
     if length > MOST_ENTRIES:
         raise Full()
-
-
-def _entries_with(tight, value):
-    before = [entry for entry in tight.entries if entry[0] <= value]
-    behind = [entry for entry in tight.entries if entry[0] > value]
-    low = before[-1][1] + 1 if before else 1
-    high = behind[0][2] if behind else tight.many + 1
-    return tuple(before + [(value, low, high)] + [_raised(entry, (1, 1)) for entry in behind])
 
 
 def _raised(entry, ranks):

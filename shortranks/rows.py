@@ -34,9 +34,14 @@ def kept_from(row, ranks):
 def surely_short(summary):
     """Give the tightened summary, for what makes rows that leave it."""
     tight = surely_tightened(summary)
-    if tight.many > MOST_NUMBERS:
-        raise TooLong()
+    check_short(tight)
     return tight
+
+
+def check_short(summary):
+    """Raise TooLong for a summary whose rows are too long to be looked at."""
+    if summary.many > MOST_NUMBERS:
+        raise TooLong()
 
 
 def filled(many, numbers, first):

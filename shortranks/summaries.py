@@ -1,7 +1,7 @@
 """Summaries: how many numbers went by, and a few of them with the ranks that they can have."""
 
 from shortranks.checks import is_between
-from shortranks.errors import BadCount, BadEntries, BadSummary, NoRow
+from shortranks.errors import BadCount, BadEntries, BadSummary, BadValue, NoRow
 
 GREATEST_COUNT = 10 ** 30
 GREATEST_VALUE = 10 ** 30
@@ -57,6 +57,12 @@ def check_summary(summary):
 def is_value(thing):
     """Tell whether a thing is an integer that an entry can have as its value."""
     return is_between(thing, -GREATEST_VALUE, GREATEST_VALUE)
+
+
+def check_value(thing):
+    """Raise BadValue for what no entry can have as its value."""
+    if not is_value(thing):
+        raise BadValue()
 
 
 def surely_tightened(summary):

@@ -1,6 +1,7 @@
 """Values of every kind that a caller may pass, and a look at the error that they bring."""
 
-from shortranks.errors import BadCount, BadEntries, RankError
+from shortranks.errors import BadCount, BadEntries, InvalidText, RankError
+from shortranks.keepers import Keeper
 from shortranks.summaries import Summary
 
 HUGE = 10 ** 30
@@ -15,8 +16,17 @@ def any_values():
         [], [1], [1, 1, 1], [(1, 1, 1)], [[]],
         {}, {1: 2}, {"many": 3, "entries": ()}, {(1, 1): [None]},
         Summary(3, ()), Summary(3, ((5, 1, 2),)), (Summary(3, ()),), [Summary(3, ())], {"a": Summary(3, ())},
-        RankError(), BadCount(), BadEntries(None), (BadCount(),),
+        RankError(), BadCount(), BadEntries(None), (BadCount(),), InvalidText(1, 2),
+        Keeper(2), keeper_of(5, 3, 8), (Keeper(20),), [keeper_of(5)], {"a": (Keeper(3), [None])},
     ]
+
+
+def keeper_of(*numbers, parts=4):
+    """A keeper that saw some numbers."""
+    keeper = Keeper(parts)
+    for number in numbers:
+        keeper.see(number)
+    return keeper
 
 
 def is_integer(value):

@@ -15,9 +15,13 @@ INTERFACE = {
     "changing.py": ("without", "put_in", "joined", "fewest"),
     "rows.py": ("leaves", "row_for", "kept_from"),
     "pairs.py": ("within", "lacking_row"),
+    "counting.py": ("count_rows",),
+    "fixed.py": ("row_with", "can_have"),
+    "keepers.py": ("Keeper",),
+    "texts.py": ("write_summary", "read_summary"),
 }
 # What the language allows to be imported from elsewhere, as far as it is used.
-LIBRARY = {"itertools": {"combinations"}}
+LIBRARY = {"itertools": {"combinations"}, "math": {"comb"}}
 
 
 def files():
